@@ -405,6 +405,10 @@ func wantAll(t *testing.T, q aging.Queue, quanta []int) {
 	for _, r := range append(slices.Clone(q.List), of(4444, 0, 0, 0)) {
 		now, is := modelDrop(q, r.ID)
 		wantDrop(t, q, r.ID, now, is)
+		for _, cost := range []int{0, 3} {
+			now, e := modelPush(q, r.ID, 4, cost)
+			wantPush(t, q, of(r.ID, 4, cost, 0), now, e)
+		}
 	}
 }
 
